@@ -1,0 +1,1 @@
+"""Programs that go through the rungs of a relay scheme, one after another."""
