@@ -1,5 +1,6 @@
 """A scheme: its relays' coils, its contacts, and what draws in a state."""
 
+from rungpasses.bits import lowest_bits
 from rungpasses.lines import CONTACT, GREATEST_NODE, INPUT, RELAY
 
 RAIL = 0
@@ -14,12 +15,16 @@ class Contact:
 
 
 class Scheme:
-    """Coils are the relays' nodes by number; mask has the bits of all variables."""
+    """Inputs is how many there are; coils are the relays' nodes by number; masks have the bits of variables."""
 
-    def __init__(self, coils, contacts, mask):
+    def __init__(self, inputs, coils, contacts):
+        self.inputs = inputs
         self.coils = coils
         self.contacts = contacts
-        self.mask = mask
+        self.relay_mask = lowest_bits(len(coils)) << FIRST_RELAY_VARIABLE
+        self.mask = lowest_bits(inputs) | self.relay_mask
+        # The same states come up again and again, so what draws in one is sought once.
+        self.drawing = {}
 
 
 def relay_bit(relay):
@@ -42,10 +47,15 @@ def variables_by_name(rows):
 def scheme_of(rows):
     """The scheme of rows without fault. Lamps work nothing, so they are not kept."""
     variables = variables_by_name(rows)
+    inputs = len(rows_of_rank(rows, INPUT))
     coils = [row.nodes[0] for row in rows_of_rank(rows, RELAY)]
     contacts = [Contact(variables[row.name], row.opener, row.nodes) for row in rows_of_rank(rows, CONTACT)]
-    mask = sum([1 << variable for variable in variables.values()])
-    return Scheme(coils, contacts, mask)
+    return Scheme(inputs, coils, contacts)
+
+
+def used_variables(scheme):
+    """The variables that a contact has, rising."""
+    return sorted(set([contact.variable for contact in scheme.contacts]))
 
 
 def lets_through(contact, state):
@@ -77,5 +87,9 @@ def live_nodes(scheme, state):
     return live
 
 
-def draws(scheme, state, relay):
-    return scheme.coils[relay] in live_nodes(scheme, state)
+def drawing_relays(scheme, state):
+    """The bits of the relays that draw."""
+    if state not in scheme.drawing:
+        live = live_nodes(scheme, state)
+        scheme.drawing[state] = sum([relay_bit(relay) for relay, coil in enumerate(scheme.coils) if coil in live])
+    return scheme.drawing[state]

@@ -7,11 +7,12 @@ import pathlib
 import unittest
 
 import rungpasses
-from helper import PASS, RUNGS, TOLD, arrange, load, put, relay
+from helper import ORDER, PASS, ROUND, RUNGS, SOME, SURE, TOLD, UNTIL, arrange, hang, load, put, relay
 from rungpasses.scheme import answers
 
 SCHEME = load("in a", "relay r at 1", "relay s at 2", "close a 0 1", "close r 0 2")
-MANY = SCHEME + put(1) + arrange(1, 0) + RUNGS + PASS + put(-1) + TOLD + arrange(1) + load("x")
+FIRST = SCHEME + put(1) + arrange(1, 0) + RUNGS + PASS + put(-1) + TOLD + arrange(1) + load("x")
+MANY = FIRST + UNTIL + ROUND + hang(1) + hang(2) + ORDER + SURE + SOME + TOLD
 
 
 class Watched(list):
@@ -32,6 +33,12 @@ class Lists(unittest.TestCase):
         self.assertEqual(answers([4]), [2, 0, 0])
         self.assertEqual(answers([5]), [2, 0, 0])
         self.assertEqual(answers([6]), [1, 0])
+        self.assertEqual(answers([7]), [3, 0, 0, 0])
+        self.assertEqual(answers([8]), [1, -5])
+        self.assertEqual(answers([9, 0]), [1, -1])
+        self.assertEqual(answers([10]), [1, 0])
+        self.assertEqual(answers([11]), [2, 0, 1])
+        self.assertEqual(answers([12]), [3, 0, 0, 0])
 
     def test_refusals_are_their_number_alone(self):
         self.assertEqual(answers([2, -1]), [1, -1])
@@ -52,6 +59,14 @@ class Lists(unittest.TestCase):
             4, 0, relay(0) + 1, 1, 0,
             1, -1,
             3, 0, 1, 0,
+            3, 0, relay(0, 1) + 1, 1,
+            1, -5,
+            2, 0, 0,
+            1, -1,
+            3, 0, 0, 1,
+            2, 0, 1,
+            3, 0, 0, relay(0, 1) + 1,
+            4, 0, relay(0, 1) + 1, 1, 0,
         ])
 
     def test_calls_behind_a_refused_long_list(self):
@@ -60,6 +75,7 @@ class Lists(unittest.TestCase):
 
     def test_forty_calls(self):
         self.assertEqual(answers([4] * 40), [2, 0, 0] * 40)
+        self.assertEqual(answers([9, 7] * 40), [1, -1] * 40)
 
     def test_thirty_thousand_numbers(self):
         self.assertEqual(answers([3, 29998] + list(range(29998))), [1, -1])

@@ -3,7 +3,7 @@
 import itertools
 import unittest
 
-from helper import PASS, TOLD, arrange, ask, load, put, relay
+from helper import PASS, TOLD, arrange, ask, load, made_up, number_of, put, relay
 
 
 def passed(lines, state, order=None, times=1):
@@ -141,53 +141,12 @@ class Rungs(unittest.TestCase):
 
 
 class AgainstAPlainReckoning(unittest.TestCase):
-    """All orders and states of made-up schemes, beside a reckoning by sets that grow."""
-
-    @staticmethod
-    def numbers():
-        value = 12345
-        while True:
-            value = (value * 1103515245 + 12345) % 2 ** 31
-            yield value >> 8
-
-    @classmethod
-    def schemes(cls, count):
-        source = cls.numbers()
-        for number in range(count):
-            contacts = []
-            for each in range(4 + number % 9):
-                nodes = sorted([next(source) % 6, next(source) % 6])
-                if nodes[0] != nodes[1]:
-                    contacts.append((next(source) % 2, next(source) % 5, *nodes))
-            yield [next(source) % 6 for each in range(3)], contacts
-
-    @staticmethod
-    def reckoned(coils, contacts, on, order):
-        on = set(on)
-        for number in order:
-            live = {0}
-            while True:
-                closed = [{low, high} for opener, name, low, high in contacts if (name in on) != bool(opener)]
-                more = live.union(*[pair for pair in closed if pair & live])
-                if more == live:
-                    break
-                live = more
-            on = on | {2 + number} if coils[number] in live else on - {2 + number}
-        return on
-
     def test_all_orders_and_states(self):
-        bits = (1, 2, relay(0), relay(1), relay(2))
-        names = "abrst"
-        for coils, contacts in self.schemes(40):
-            text = ["in a", "in b"] + ["relay " + names[2 + k] + " at " + str(coils[k]) for k in range(3)]
-            for opener, name, low, high in contacts:
-                text.append(("open " if opener else "close ") + names[name] + " " + str(low) + " " + str(high))
+        for made in made_up(40, 12, 2, 3, 6):
             for order in itertools.permutations(range(3)):
-                for chosen in itertools.product((0, 1), repeat=5):
-                    on = {k for k in range(5) if chosen[k]}
-                    state = sum(bits[k] for k in on)
-                    expected = sum(bits[k] for k in self.reckoned(coils, contacts, on, order))
-                    self.assertEqual(passed(text, state, order), expected, (text, order, state))
+                for on in made.states():
+                    expected = number_of(made.passed(on, order))
+                    self.assertEqual(passed(made.lines(), number_of(on), order), expected, (made.lines(), order, on))
 
 
 if __name__ == "__main__":
